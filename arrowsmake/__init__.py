@@ -1,0 +1,1 @@
+"""Arrows and what they make: the calls are answered in arrowsmake.categories."""
