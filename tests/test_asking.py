@@ -5,14 +5,9 @@ import unittest
 
 from tests.helper import (
     DIAMOND, DISCRETE, FORGETS, HALF_UNDONE, MADE_ALIKE, MOST, ONE_AND_TWO, ONE_ARROW, SAMPLES, TWO_THE_SAME,
-    TWO_TURNS, Sample, after, arrow, check, hom, kinds, last, make, of_order, product, run, start, turn)
+    TWO_TURNS, Sample, after, arrow, check, hom, kinds, last, make, no_categories, of_order, product, run, start, turn)
 
-# Faults 1, 2 and 3, one each.
-NO_CATEGORIES = (
-    [arrow(0, 0, 0)],
-    [start(0, 2), arrow(0, 0, 0), make(0, 2, 2, 1)],
-    [arrow(0, 0, 0), arrow(0, 0, 0), make(0, 1, 1, 2), make(0, 1, 2, 1), make(0, 2, 1, 2), make(0, 2, 2, 2)],
-)
+NO_CATEGORIES = no_categories(0)
 
 
 def first_fault(sample):

@@ -3,8 +3,8 @@
 import unittest
 
 from tests.helper import (
-    MOST, ONE_AND_TWO, HALF_UNDONE, SAMPLES, after, arrow, check, hom, kinds, last, make,
-    product, run, start, turn)
+    MOST, ONE_AND_TWO, HALF_UNDONE, SAMPLES, after, alike, arrow, changes, check, equalizer, hom, kinds, last, make,
+    maps, nth, partner, product, pullback, run, start, turn)
 
 NINE = [arrow(0, 0, 0)] * 8
 
@@ -13,12 +13,16 @@ class WhichOfTheTwo(unittest.TestCase):
     def test_above_one_is_refused_at_each_call(self):
         for i in (2, 3, 16, MOST):
             calls = [start(i, 1), arrow(i, 0, 0), make(i, 1, 1, 1), check(i), kinds(i, 0),
-                     hom(i, 0, 0), turn(i), last(i), product(i, 0, 0)]
-            self.assertEqual(run(*calls), [[-2]] * 9)
+                     hom(i, 0, 0), turn(i), last(i), product(i, 0, 0), pullback(i, 0, 0), equalizer(i, 0, 0),
+                     maps(i), nth(i, 0), changes(i, 0, 0), alike(i, 0, 0), partner(i, 0)]
+            self.assertEqual(run(*calls), [[-2]] * 16)
 
     def test_is_told_ahead_of_all_other_refusals(self):
-        calls = [start(2, 0), arrow(2, 9, 9), make(2, 9, 9, 9), kinds(2, 9), hom(2, 9, 9), product(2, 9, 9)]
-        self.assertEqual(run(*calls), [[-2]] * 6)
+        calls = [start(2, 0), arrow(2, 9, 9), make(2, 9, 9, 9), kinds(2, 9), hom(2, 9, 9), product(2, 9, 9),
+                 pullback(2, 9, 9), equalizer(2, 9, 9), nth(2, 9), changes(2, 9, 9), alike(2, 9, 9), partner(2, 9)]
+        self.assertEqual(run(*calls), [[-2]] * 12)
+        # The one at hand is no category, either.
+        self.assertEqual(after([arrow(0, 0, 0), arrow(1, 0, 0)], maps(2), *calls), [[-2]] * 13)
 
     def test_zero_and_one_are_there_with_one_thing_each(self):
         for i in (0, 1):
@@ -168,8 +172,8 @@ class TheTwo(unittest.TestCase):
             asked = [check(1 - i), hom(1 - i, 0, 1), kinds(1 - i, 2), kinds(1 - i, 3), last(1 - i),
                      product(1 - i, 0, 0)]
             expected = after(told, *asked)
-            for changes in ([start(i, 4)], [arrow(i, 0, 0)], [arrow(i, 0, 0), make(i, 1, 1, 0)], [turn(i)]):
-                self.assertEqual(after(told + changes, *asked), expected)
+            for further in ([start(i, 4)], [arrow(i, 0, 0)], [arrow(i, 0, 0), make(i, 1, 1, 0)], [turn(i)]):
+                self.assertEqual(after(told + further, *asked), expected)
 
     def test_calls_about_both_one_behind_another(self):
         self.assertEqual(run(start(0, 2), arrow(1, 0, 0), arrow(0, 0, 1), check(1), check(0), make(1, 1, 1, 0),
